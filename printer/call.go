@@ -15,7 +15,25 @@ const maxPrints = 1 << 17
 // call is what all prints of one call share.
 type call struct {
 	table  []api.Hook
-	within int // how many prints within prints were made
+	rows   map[int]api.Hook // those that were got, by their numbers
+	within int              // how many prints within prints were made
+}
+
+func newCall(table []api.Hook) *call {
+	return &call{table: table, rows: make(map[int]api.Hook)}
+}
+
+// row answers the row n of the table, if it has one. It is got once in a call,
+// since Get copies all of it, and thousands of prints may ask for one row.
+func (c *call) row(n int) (api.Hook, bool) {
+	if h, ok := c.rows[n]; ok {
+		return h, true
+	}
+	h, ok := hooks.Get(c.table, n)
+	if ok {
+		c.rows[n] = h
+	}
+	return h, ok
 }
 
 // at answers the print of that depth, which isn't below 0 (P14.1).
@@ -34,7 +52,7 @@ func (p *printing) ask(v values.Value, f api.Spec) (string, bool) {
 	if p.call.within == maxPrints {
 		return "", true
 	}
-	h, ok := hooks.Get(p.call.table, values.Hook(v))
+	h, ok := p.call.row(values.Hook(v))
 	if !ok {
 		return "", false
 	}
